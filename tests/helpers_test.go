@@ -1,0 +1,183 @@
+package tests
+
+import (
+	"fmt"
+	"math"
+	"reflect"
+	"testing"
+
+	"loop.example/g01208/impl"
+)
+
+type (
+	vessels = impl.Vessels
+	move    = impl.Move
+)
+
+// tap and drain are the same number; two names tell which one is meant.
+const (
+	tap   = -1
+	drain = -1
+)
+
+const (
+	least    = math.MinInt
+	greatest = math.MaxInt
+)
+
+// mark is written into spare capacity, where no function may read or write.
+const mark = 7777
+
+// fromTo returns the move with these numbers, which may be any.
+func fromTo(from int, to int) move {
+	return move{From: from, To: to}
+}
+
+// read returns the vessels with a text that is known to be one.
+func read(t *testing.T, s string) vessels {
+	t.Helper()
+	v, ok := impl.ParseVessels(s)
+	if !ok {
+		t.Fatalf("ParseVessels(%q) fails", s)
+	}
+	return v
+}
+
+// readMoves returns the moves with texts that are known to be some.
+func readMoves(t *testing.T, texts ...string) []move {
+	t.Helper()
+	var moves []move
+	for _, s := range texts {
+		m, ok := impl.ParseMove(s)
+		if !ok {
+			t.Fatalf("ParseMove(%q) fails", s)
+		}
+		moves = append(moves, m)
+	}
+	return moves
+}
+
+// written returns the text of vessels, or a word that is no text of any.
+func written(v vessels) string {
+	s, ok := impl.VesselsText(v)
+	if !ok {
+		return "no vessels"
+	}
+	return s
+}
+
+// same compares two values, where a nil slice and an empty one are the same.
+func same(a any, b any) bool {
+	return sameValues(reflect.ValueOf(a), reflect.ValueOf(b))
+}
+
+func sameValues(a reflect.Value, b reflect.Value) bool {
+	switch a.Kind() {
+	case reflect.Interface:
+		return sameValues(a.Elem(), b.Elem())
+	case reflect.Slice:
+		if a.Len() != b.Len() {
+			return false
+		}
+		for i := range a.Len() {
+			if !sameValues(a.Index(i), b.Index(i)) {
+				return false
+			}
+		}
+		return true
+	case reflect.Struct:
+		for i := range a.NumField() {
+			if !sameValues(a.Field(i), b.Field(i)) {
+				return false
+			}
+		}
+		return true
+	}
+	return a.Interface() == b.Interface()
+}
+
+// isZero reports whether a result is the zero value of its type; a slice may be empty instead of nil.
+func isZero(a any) bool {
+	return same(a, reflect.Zero(reflect.TypeOf(a)).Interface())
+}
+
+// checkFails reports a test error unless a call has failed with zero results. The last result is whether it succeeded.
+func checkFails(t *testing.T, what string, results ...any) {
+	t.Helper()
+	for _, r := range results {
+		if !isZero(r) {
+			t.Errorf("%s: got %v, where it has to fail with zero results", what, results)
+			return
+		}
+	}
+}
+
+// brief returns the beginning of a text of a value.
+func brief(a any) string {
+	s := fmt.Sprintf("%+v", a)
+	return s[:min(len(s), 300)]
+}
+
+// all returns the results of a call as a list.
+func all(results ...any) []any {
+	return results
+}
+
+// spare returns a list in memory that goes on behind its end, with marks there.
+func spare[E any](list []E, behind E) []E {
+	longer := make([]E, len(list), len(list)+3)
+	copy(longer, list)
+	for i := len(list); i < cap(longer); i++ {
+		longer[:cap(longer)][i] = behind
+	}
+	return longer
+}
+
+// spareVessels returns vessels with marks in the spare capacity of their lists.
+func spareVessels(v vessels) vessels {
+	return vessels{Sizes: spare(v.Sizes, mark), Held: spare(v.Held, mark)}
+}
+
+// spareMoves returns moves with marks in their spare capacity.
+func spareMoves(moves []move) []move {
+	return spare(moves, fromTo(mark, mark))
+}
+
+// repeated returns a list of so many times the same move.
+func repeated(m move, times int) []move {
+	moves := make([]move, times)
+	for i := range moves {
+		moves[i] = m
+	}
+	return moves
+}
+
+// eachVessels calls f with all vessels of so many sizes of at most a size.
+func eachVessels(count int, size int, f func(v vessels)) {
+	v := vessels{Sizes: make([]int, count), Held: make([]int, count)}
+	var fill func(i int)
+	fill = func(i int) {
+		if i == count {
+			f(vessels{Sizes: append([]int(nil), v.Sizes...), Held: append([]int(nil), v.Held...)})
+			return
+		}
+		for s := 1; s <= size; s++ {
+			for h := 0; h <= s; h++ {
+				v.Sizes[i], v.Held[i] = s, h
+				fill(i + 1)
+			}
+		}
+	}
+	fill(0)
+}
+
+// eachMove calls f with all moves of so many vessels, ordered by From, then by To.
+func eachMove(count int, f func(m move)) {
+	for from := -1; from < count; from++ {
+		for to := -1; to < count; to++ {
+			if from != to {
+				f(fromTo(from, to))
+			}
+		}
+	}
+}
