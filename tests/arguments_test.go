@@ -11,16 +11,19 @@ import (
 
 // arguments are those with which every function is called.
 type arguments struct {
-	V      vessels
-	M      move
-	Moves  []move
-	I, J   int
-	Closed bool
-	S      string
+	V, W    vessels
+	M       move
+	Moves   []move
+	I, J, K int
+	Closed  bool
+	S       string
 }
 
+// calls are functions by their names.
+type calls map[string]func(a arguments) []any
+
 // vesselCalls are the functions of chapter 1.
-var vesselCalls = map[string]func(a arguments) []any{
+var vesselCalls = calls{
 	"AreVessels":   func(a arguments) []any { return all(impl.AreVessels(a.V)) },
 	"SumHeld":      func(a arguments) []any { return all(impl.SumHeld(a.V)) },
 	"RoomIn":       func(a arguments) []any { return all(impl.RoomIn(a.V, a.I)) },
@@ -39,6 +42,25 @@ var vesselCalls = map[string]func(a arguments) []any{
 	"ParseVessels": func(a arguments) []any { return all(impl.ParseVessels(a.S)) },
 	"MoveText":     func(a arguments) []any { return all(impl.MoveText(a.M)) },
 	"ParseMove":    func(a arguments) []any { return all(impl.ParseMove(a.S)) },
+}
+
+// planCalls are the functions of chapter 2.
+var planCalls = calls{
+	"CountStates":     func(a arguments) []any { return all(impl.CountStates(a.V, a.Closed)) },
+	"IsReached":       func(a arguments) []any { return all(impl.IsReached(a.V, a.W, a.Closed)) },
+	"PlanTo":          func(a arguments) []any { return all(impl.PlanTo(a.V, a.W, a.Closed)) },
+	"PlanToAmount":    func(a arguments) []any { return all(impl.PlanToAmount(a.V, a.I, a.Closed)) },
+	"AmountsOf":       func(a arguments) []any { return all(impl.AmountsOf(a.V, a.Closed)) },
+	"SumsOf":          func(a arguments) []any { return all(impl.SumsOf(a.V)) },
+	"FarthestState":   func(a arguments) []any { return all(impl.FarthestState(a.V, a.Closed)) },
+	"LayersOf":        func(a arguments) []any { return all(impl.LayersOf(a.V, a.Closed)) },
+	"CountPlans":      func(a arguments) []any { return all(impl.CountPlans(a.V, a.W, a.Closed)) },
+	"LastingStates":   func(a arguments) []any { return all(impl.LastingStates(a.V, a.Closed)) },
+	"DivisorOf":       func(a arguments) []any { return all(impl.DivisorOf(a.V)) },
+	"TwoVesselPlan":   func(a arguments) []any { return all(impl.TwoVesselPlan(a.I, a.J, a.K)) },
+	"TwoVesselLength": func(a arguments) []any { return all(impl.TwoVesselLength(a.I, a.J, a.K)) },
+	"LeastWater":      func(a arguments) []any { return all(impl.LeastWater(a.V, a.I)) },
+	"WaterPlan":       func(a arguments) []any { return all(impl.WaterPlan(a.V, a.I)) },
 }
 
 // oddVessels returns vessels and values that are none, all with spare capacity.
@@ -93,6 +115,7 @@ func oddLists() [][]move {
 func longArguments() arguments {
 	return arguments{
 		V:     spareVessels(vessels{Sizes: make([]int, 100000), Held: make([]int, 100000)}),
+		W:     spareVessels(vessels{Sizes: make([]int, 100000), Held: make([]int, 100000)}),
 		Moves: spareMoves(repeated(fromTo(0, drain), 100000)),
 		S:     strings.Repeat("0/1,", 100000),
 	}
@@ -113,6 +136,27 @@ func eachArguments(f func(a arguments)) {
 		for i := range 3 {
 			for j := range 3 {
 				f(arguments{V: v, M: fromTo(i, j), Moves: lists[1], I: i, J: j, S: texts[1+i], Closed: true})
+			}
+		}
+	}
+	f(longArguments())
+}
+
+// eachPlanArguments calls f with arguments of plans: each odd vessels beside others, and numbers that may be any.
+func eachPlanArguments(f func(a arguments)) {
+	numbers := []int{least, -1, 0, 1, 2, 4, 5, 60, 61, greatest}
+	list := append(oddVessels(), spareVessels(vessels{Sizes: []int{3, 5}, Held: []int{3, 2}}), spareVessels(vessels{Sizes: []int{4, 6}, Held: []int{0, 0}}))
+	for i, v := range list {
+		for j, w := range list {
+			f(arguments{V: v, W: w, I: numbers[(i+j)%len(numbers)], J: numbers[i%len(numbers)], K: numbers[j%len(numbers)], Closed: (i+j)%2 == 0})
+		}
+		f(arguments{V: v, W: v, I: 2, J: 5, K: 4, Closed: true})
+	}
+	small := spareVessels(vessels{Sizes: []int{3, 5}, Held: []int{0, 5}})
+	for i, a := range numbers {
+		for _, b := range numbers {
+			for j, amount := range numbers {
+				f(arguments{V: small, W: small, I: a, J: b, K: amount, Closed: (i+j)%2 == 0})
 			}
 		}
 	}
@@ -212,40 +256,66 @@ func TestEveryCallIsTotalAndLeavesItsArguments(t *testing.T) {
 			checkCall(t, name, call, a)
 		}
 	})
+	eachPlanArguments(func(a arguments) {
+		for name, call := range planCalls {
+			checkCall(t, name, call, a)
+		}
+	})
+}
+
+// plainCalls are arguments without spare capacity, and the functions that are called with them.
+func plainCalls() map[*arguments]calls {
+	return map[*arguments]calls{
+		{
+			V: vessels{Sizes: []int{3, 5}, Held: []int{0, 5}}, M: fromTo(1, 0),
+			Moves: []move{fromTo(1, 0), fromTo(0, drain), fromTo(1, 0)},
+			I:     1, J: 0, S: "0/3",
+		}: vesselCalls,
+		{
+			V: vessels{Sizes: []int{3, 5}, Held: []int{0, 5}}, W: vessels{Sizes: []int{3, 5}, Held: []int{3, 2}},
+			I: 4, J: 7, K: 5,
+		}: planCalls,
+	}
+}
+
+// spared returns the same arguments with marks in the spare capacity behind their lists.
+func spared(a arguments) arguments {
+	a.V, a.W, a.Moves = spareVessels(a.V), spareVessels(a.W), spareMoves(a.Moves)
+	return a
 }
 
 func TestSpareCapacityIsNotRead(t *testing.T) {
-	v := vessels{Sizes: []int{3, 5}, Held: []int{0, 5}}
-	moves := []move{fromTo(1, 0), fromTo(0, drain), fromTo(1, 0)}
-	plain := arguments{V: v, M: fromTo(1, 0), Moves: moves, J: 1, I: 2, S: "0/3"}
-	marked := plain
-	marked.V, marked.Moves = spareVessels(v), spareMoves(moves)
-	for name, call := range vesselCalls {
-		if a, b := call(plain), call(marked); !same(a, b) {
-			t.Errorf("%s: %v without spare capacity, %v with some", name, a, b)
+	for plain, list := range plainCalls() {
+		marked := spared(*plain)
+		for name, call := range list {
+			if a, b := call(*plain), call(marked); !same(a, b) {
+				t.Errorf("%s: %v without spare capacity, %v with some", name, a, b)
+			}
 		}
 	}
 }
 
 func TestResultsStayWhenArgumentsChange(t *testing.T) {
-	v := spareVessels(vessels{Sizes: []int{3, 5}, Held: []int{0, 5}})
-	moves := spareMoves([]move{fromTo(1, 0), fromTo(0, drain), fromTo(1, 0)})
-	a := arguments{V: v, M: fromTo(1, 0), Moves: moves, I: 1, J: 0}
-	results := map[string]string{}
-	kept := map[string][]any{}
-	for name, call := range vesselCalls {
-		kept[name] = call(a)
-		results[name] = fmt.Sprint(kept[name]...)
-	}
-	for i := range v.Sizes {
-		v.Sizes[i], v.Held[i] = mark, mark
-	}
-	for i := range moves {
-		moves[i] = fromTo(mark, mark)
-	}
-	for name, want := range results {
-		if got := fmt.Sprint(kept[name]...); got != want {
-			t.Errorf("%s: %s has become %s", name, want, got)
+	for plain, list := range plainCalls() {
+		a := spared(*plain)
+		results := map[string]string{}
+		kept := map[string][]any{}
+		for name, call := range list {
+			kept[name] = call(a)
+			results[name] = fmt.Sprint(kept[name]...)
+		}
+		for _, numbers := range [][]int{a.V.Sizes, a.V.Held, a.W.Sizes, a.W.Held} {
+			for i := range numbers {
+				numbers[i] = mark
+			}
+		}
+		for i := range a.Moves {
+			a.Moves[i] = fromTo(mark, mark)
+		}
+		for name, want := range results {
+			if got := fmt.Sprint(kept[name]...); got != want {
+				t.Errorf("%s: %s has become %s", name, want, got)
+			}
 		}
 	}
 }
