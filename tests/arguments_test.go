@@ -3,6 +3,7 @@ package tests
 import (
 	"fmt"
 	"reflect"
+	"slices"
 	"strings"
 	"testing"
 
@@ -17,6 +18,10 @@ type arguments struct {
 	I, J, K int
 	Closed  bool
 	S       string
+	Siphon  siphon
+	Level   level
+	Inflows []int
+	Chain   []siphon
 }
 
 // calls are functions by their names.
@@ -61,6 +66,24 @@ var planCalls = calls{
 	"TwoVesselLength": func(a arguments) []any { return all(impl.TwoVesselLength(a.I, a.J, a.K)) },
 	"LeastWater":      func(a arguments) []any { return all(impl.LeastWater(a.V, a.I)) },
 	"WaterPlan":       func(a arguments) []any { return all(impl.WaterPlan(a.V, a.I)) },
+}
+
+// siphonCalls are the functions of chapter 3.
+var siphonCalls = calls{
+	"IsSiphon":       func(a arguments) []any { return all(impl.IsSiphon(a.Siphon)) },
+	"IsSiphonLevel":  func(a arguments) []any { return all(impl.IsSiphonLevel(a.Siphon, a.Level)) },
+	"TickSiphon":     func(a arguments) []any { return all(impl.TickSiphon(a.Siphon, a.Level, a.I)) },
+	"OutsOf":         func(a arguments) []any { return all(impl.OutsOf(a.Siphon, a.Level, a.Inflows)) },
+	"LevelsOf":       func(a arguments) []any { return all(impl.LevelsOf(a.Siphon, a.Level, a.Inflows)) },
+	"SpiltOf":        func(a arguments) []any { return all(impl.SpiltOf(a.Siphon, a.Level, a.Inflows)) },
+	"FirstRun":       func(a arguments) []any { return all(impl.FirstRun(a.Siphon, a.I)) },
+	"PeriodOfSiphon": func(a arguments) []any { return all(impl.PeriodOfSiphon(a.Siphon, a.I)) },
+	"PulseOf":        func(a arguments) []any { return all(impl.PulseOf(a.Siphon, a.I)) },
+	"SpiltInPeriod":  func(a arguments) []any { return all(impl.SpiltInPeriod(a.Siphon, a.I)) },
+	"NeverStops":     func(a arguments) []any { return all(impl.NeverStops(a.Siphon, a.I)) },
+	"ChainOuts":      func(a arguments) []any { return all(impl.ChainOuts(a.Chain, a.Inflows)) },
+	"PeriodOfChain":  func(a arguments) []any { return all(impl.PeriodOfChain(a.Chain, a.I)) },
+	"CapacityOf":     func(a arguments) []any { return all(impl.CapacityOf(a.Siphon)) },
 }
 
 // oddVessels returns vessels and values that are none, all with spare capacity.
@@ -118,6 +141,10 @@ func longArguments() arguments {
 		W:     spareVessels(vessels{Sizes: make([]int, 100000), Held: make([]int, 100000)}),
 		Moves: spareMoves(repeated(fromTo(0, drain), 100000)),
 		S:     strings.Repeat("0/1,", 100000),
+
+		Siphon:  siphon{Size: 10, Low: 1, Start: 8, Flow: 4},
+		Inflows: spare(times(3, 100000), mark),
+		Chain:   spareChain(slices.Repeat([]siphon{{Size: 10, Low: 1, Start: 8, Flow: 4}}, 100000)),
 	}
 }
 
@@ -158,6 +185,53 @@ func eachPlanArguments(f func(a arguments)) {
 			for j, amount := range numbers {
 				f(arguments{V: small, W: small, I: a, J: b, K: amount, Closed: (i+j)%2 == 0})
 			}
+		}
+	}
+	f(longArguments())
+}
+
+// spareChain returns a list of siphons with marks in its spare capacity.
+func spareChain(chain []siphon) []siphon {
+	return spare(chain, siphon{Size: mark, Low: mark, Start: mark, Flow: mark})
+}
+
+// oddChains returns chains, and lists that are none, all with spare capacity.
+func oddChains() [][]siphon {
+	a, b := siphon{Size: 10, Low: 1, Start: 8, Flow: 4}, siphon{Size: 5, Low: 0, Start: 5, Flow: 2}
+	chains := [][]siphon{{}, {a}, {a, b}, {b, a, b, a}, {a, b, a, b, a}, justRound, moreRound}
+	for _, s := range noSiphons {
+		chains = append(chains, []siphon{s}, []siphon{a, s})
+	}
+	for i, chain := range chains {
+		chains[i] = spareChain(chain)
+	}
+	return append(chains, nil)
+}
+
+// oddInflows returns inflows, and lists that are none, all with spare capacity.
+func oddInflows() [][]int {
+	lists := [][]int{{}, {0}, {60}, {3, 3, 3, 3, 3, 3, 3}, times(7, 100), times(7, 101), {3, 61}, {3, -1}, {least, greatest}, {greatest}}
+	for i, list := range lists {
+		lists[i] = spare(list, mark)
+	}
+	return append(lists, nil)
+}
+
+// eachSiphonArguments calls f with arguments of siphons: each odd siphon and each odd chain beside levels, inflows and lists of them that may be any.
+func eachSiphonArguments(f func(a arguments)) {
+	numbers := []int{least, -1, 0, 1, 3, 60, 61, greatest}
+	siphons := append([]siphon{{Size: 10, Low: 1, Start: 8, Flow: 4}, {Size: 60, Low: 0, Start: 60, Flow: 2}, {Size: 1, Low: 0, Start: 1, Flow: 60}}, noSiphons...)
+	chains, lists := oddChains(), oddInflows()
+	for i, s := range siphons {
+		for j, x := range numbers {
+			for k, held := range numbers {
+				f(arguments{Siphon: s, Level: level{Held: held, Running: (j+k)%2 == 0}, I: x, Chain: chains[(i+j)%len(chains)], Inflows: lists[(j+k)%len(lists)]})
+			}
+		}
+	}
+	for i, chain := range chains {
+		for j, list := range lists {
+			f(arguments{Siphon: siphons[j%2], Level: level{Held: i % 10, Running: j%2 == 0}, I: numbers[j%len(numbers)], Chain: chain, Inflows: list})
 		}
 	}
 	f(longArguments())
@@ -261,6 +335,11 @@ func TestEveryCallIsTotalAndLeavesItsArguments(t *testing.T) {
 			checkCall(t, name, call, a)
 		}
 	})
+	eachSiphonArguments(func(a arguments) {
+		for name, call := range siphonCalls {
+			checkCall(t, name, call, a)
+		}
+	})
 }
 
 // plainCalls are arguments without spare capacity, and the functions that are called with them.
@@ -275,12 +354,17 @@ func plainCalls() map[*arguments]calls {
 			V: vessels{Sizes: []int{3, 5}, Held: []int{0, 5}}, W: vessels{Sizes: []int{3, 5}, Held: []int{3, 2}},
 			I: 4, J: 7, K: 5,
 		}: planCalls,
+		{
+			Siphon: siphon{Size: 10, Low: 1, Start: 8, Flow: 4}, Level: level{Held: 2, Running: true}, I: 3,
+			Inflows: []int{3, 0, 9, 3, 3, 60}, Chain: []siphon{{Size: 10, Low: 1, Start: 8, Flow: 4}, {Size: 5, Low: 0, Start: 5, Flow: 2}},
+		}: siphonCalls,
 	}
 }
 
 // spared returns the same arguments with marks in the spare capacity behind their lists.
 func spared(a arguments) arguments {
 	a.V, a.W, a.Moves = spareVessels(a.V), spareVessels(a.W), spareMoves(a.Moves)
+	a.Inflows, a.Chain = spare(a.Inflows, mark), spareChain(a.Chain)
 	return a
 }
 
@@ -304,13 +388,16 @@ func TestResultsStayWhenArgumentsChange(t *testing.T) {
 			kept[name] = call(a)
 			results[name] = fmt.Sprint(kept[name]...)
 		}
-		for _, numbers := range [][]int{a.V.Sizes, a.V.Held, a.W.Sizes, a.W.Held} {
+		for _, numbers := range [][]int{a.V.Sizes, a.V.Held, a.W.Sizes, a.W.Held, a.Inflows} {
 			for i := range numbers {
 				numbers[i] = mark
 			}
 		}
 		for i := range a.Moves {
 			a.Moves[i] = fromTo(mark, mark)
+		}
+		for i := range a.Chain {
+			a.Chain[i] = siphon{Size: mark, Low: mark, Start: mark, Flow: mark}
 		}
 		for name, want := range results {
 			if got := fmt.Sprint(kept[name]...); got != want {

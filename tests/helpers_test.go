@@ -12,6 +12,8 @@ import (
 type (
 	vessels = impl.Vessels
 	move    = impl.Move
+	siphon  = impl.Siphon
+	level   = impl.Level
 )
 
 // tap and drain are the same number; two names tell which one is meant.
@@ -152,6 +154,24 @@ func repeated(m move, times int) []move {
 	return moves
 }
 
+// times returns a list of so many times the same number.
+func times(x int, count int) []int {
+	list := make([]int, count)
+	for i := range list {
+		list[i] = x
+	}
+	return list
+}
+
+// sumOf returns the sum of numbers.
+func sumOf(list []int) int {
+	sum := 0
+	for _, x := range list {
+		sum += x
+	}
+	return sum
+}
+
 // eachVessels calls f with all vessels of so many sizes of at most a size.
 func eachVessels(count int, size int, f func(v vessels)) {
 	v := vessels{Sizes: make([]int, count), Held: make([]int, count)}
@@ -177,6 +197,20 @@ func eachMove(count int, f func(m move)) {
 		for to := -1; to < count; to++ {
 			if from != to {
 				f(fromTo(from, to))
+			}
+		}
+	}
+}
+
+// eachSiphon calls f with all siphons of at most a size, with small flows and the greatest one.
+func eachSiphon(size int, f func(s siphon)) {
+	for full := 1; full <= size; full++ {
+		for start := 1; start <= full; start++ {
+			for low := range start {
+				for flow := 1; flow <= size+1; flow++ {
+					f(siphon{Size: full, Low: low, Start: start, Flow: flow})
+				}
+				f(siphon{Size: full, Low: low, Start: start, Flow: impl.MaxSize})
 			}
 		}
 	}
