@@ -22,6 +22,10 @@ type arguments struct {
 	Level   level
 	Inflows []int
 	Chain   []siphon
+	Caps    []int
+	Held    []int
+	Days    []int
+	Other   []int
 }
 
 // calls are functions by their names.
@@ -86,6 +90,24 @@ var siphonCalls = calls{
 	"CapacityOf":     func(a arguments) []any { return all(impl.CapacityOf(a.Siphon)) },
 }
 
+// bucketCalls are the functions of chapter 4.
+var bucketCalls = calls{
+	"AreCaps":     func(a arguments) []any { return all(impl.AreCaps(a.Caps)) },
+	"HeldAfter":   func(a arguments) []any { return all(impl.HeldAfter(a.Caps, a.I)) },
+	"TipsAfter":   func(a arguments) []any { return all(impl.TipsAfter(a.Caps, a.I)) },
+	"TipsAtDrop":  func(a arguments) []any { return all(impl.TipsAtDrop(a.Caps, a.I)) },
+	"DropsFor":    func(a arguments) []any { return all(impl.DropsFor(a.Caps, a.Held)) },
+	"RoundOf":     func(a arguments) []any { return all(impl.RoundOf(a.Caps)) },
+	"AddDrops":    func(a arguments) []any { return all(impl.AddDrops(a.Caps, a.Held, a.I)) },
+	"BackDrops":   func(a arguments) []any { return all(impl.BackDrops(a.Caps, a.Held, a.I)) },
+	"TipsOfRain":  func(a arguments) []any { return all(impl.TipsOfRain(a.J, a.Days)) },
+	"RestOfRain":  func(a arguments) []any { return all(impl.RestOfRain(a.J, a.Days)) },
+	"RangeOfTips": func(a arguments) []any { return all(impl.RangeOfTips(a.J, a.Days)) },
+	"RangeOfTwo":  func(a arguments) []any { return all(impl.RangeOfTwo(a.J, a.K, a.Days, a.Other)) },
+	"RainOfTips":  func(a arguments) []any { return all(impl.RainOfTips(a.J, a.Days)) },
+	"FirstTip":    func(a arguments) []any { return all(impl.FirstTip(a.J, a.Days)) },
+}
+
 // oddVessels returns vessels and values that are none, all with spare capacity.
 func oddVessels() []vessels {
 	list := []vessels{
@@ -145,6 +167,11 @@ func longArguments() arguments {
 		Siphon:  siphon{Size: 10, Low: 1, Start: 8, Flow: 4},
 		Inflows: spare(times(3, 100000), mark),
 		Chain:   spareChain(slices.Repeat([]siphon{{Size: 10, Low: 1, Start: 8, Flow: 4}}, 100000)),
+
+		Caps:  spare(times(2, 100000), mark),
+		Held:  spare(times(1, 100000), mark),
+		Days:  spare(times(3, 100000), mark),
+		Other: spare(times(3, 100000), mark),
 	}
 }
 
@@ -232,6 +259,40 @@ func eachSiphonArguments(f func(a arguments)) {
 	for i, chain := range chains {
 		for j, list := range lists {
 			f(arguments{Siphon: siphons[j%2], Level: level{Held: i % 10, Running: j%2 == 0}, I: numbers[j%len(numbers)], Chain: chain, Inflows: list})
+		}
+	}
+	f(longArguments())
+}
+
+// spareLists returns the lists and an empty one, all with marks in their spare capacity, and nil.
+func spareLists(lists ...[]int) [][]int {
+	marked := [][]int{nil, spare([]int{}, mark)}
+	for _, list := range lists {
+		marked = append(marked, spare(list, mark))
+	}
+	return marked
+}
+
+// eachBucketArguments calls f with arguments of buckets and gauges: caps beside what is held and numbers of drops, and rooms beside rain and tips, all of which may be any.
+func eachBucketArguments(f func(a arguments)) {
+	drops := []int{least, -1, 0, 1, 6, 30, impl.MaxDrops, impl.MaxDrops + 1, greatest}
+	rooms := []int{least, -1, 0, 1, 4, 5, 60, 61, greatest}
+	caps := spareLists(append([][]int{wheel, {2}, {60}, greatestWheel}, noCaps...)...)
+	held := spareLists(append([][]int{{1, 2, 4}, {1}, {59}, {59, 59, 59, 59, 59, 59}}, noHeldByWheel...)...)
+	days := spareLists(append([][]int{{3, 2, 9}, {0, 1, 2}, {2}, {10000}, times(10000, 100)}, noDays...)...)
+	for i, c := range caps {
+		for j, h := range held {
+			for k, n := range drops {
+				f(arguments{Caps: c, Held: h, I: n, J: rooms[(i+j)%len(rooms)], K: rooms[k], Days: days[(i+k)%len(days)], Other: days[j%len(days)]})
+			}
+		}
+	}
+	for _, a := range rooms {
+		for _, b := range rooms {
+			for i, list := range days {
+				f(arguments{Caps: caps[2], Held: held[2], I: a, J: a, K: b, Days: list, Other: days[i*7%len(days)]})
+				f(arguments{Caps: caps[2], Held: held[2], I: b, J: a, K: b, Days: list, Other: list})
+			}
 		}
 	}
 	f(longArguments())
@@ -340,6 +401,11 @@ func TestEveryCallIsTotalAndLeavesItsArguments(t *testing.T) {
 			checkCall(t, name, call, a)
 		}
 	})
+	eachBucketArguments(func(a arguments) {
+		for name, call := range bucketCalls {
+			checkCall(t, name, call, a)
+		}
+	})
 }
 
 // plainCalls are arguments without spare capacity, and the functions that are called with them.
@@ -358,6 +424,9 @@ func plainCalls() map[*arguments]calls {
 			Siphon: siphon{Size: 10, Low: 1, Start: 8, Flow: 4}, Level: level{Held: 2, Running: true}, I: 3,
 			Inflows: []int{3, 0, 9, 3, 3, 60}, Chain: []siphon{{Size: 10, Low: 1, Start: 8, Flow: 4}, {Size: 5, Low: 0, Start: 5, Flow: 2}},
 		}: siphonCalls,
+		{
+			Caps: []int{2, 3, 5}, Held: []int{1, 2, 3}, I: 7, J: 4, K: 5, Days: []int{3, 2, 9}, Other: []int{1, 10},
+		}: bucketCalls,
 	}
 }
 
@@ -365,6 +434,7 @@ func plainCalls() map[*arguments]calls {
 func spared(a arguments) arguments {
 	a.V, a.W, a.Moves = spareVessels(a.V), spareVessels(a.W), spareMoves(a.Moves)
 	a.Inflows, a.Chain = spare(a.Inflows, mark), spareChain(a.Chain)
+	a.Caps, a.Held, a.Days, a.Other = spare(a.Caps, mark), spare(a.Held, mark), spare(a.Days, mark), spare(a.Other, mark)
 	return a
 }
 
@@ -388,7 +458,7 @@ func TestResultsStayWhenArgumentsChange(t *testing.T) {
 			kept[name] = call(a)
 			results[name] = fmt.Sprint(kept[name]...)
 		}
-		for _, numbers := range [][]int{a.V.Sizes, a.V.Held, a.W.Sizes, a.W.Held, a.Inflows} {
+		for _, numbers := range [][]int{a.V.Sizes, a.V.Held, a.W.Sizes, a.W.Held, a.Inflows, a.Caps, a.Held, a.Days, a.Other} {
 			for i := range numbers {
 				numbers[i] = mark
 			}
