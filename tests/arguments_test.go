@@ -3,6 +3,7 @@ package tests
 import (
 	"fmt"
 	"reflect"
+	"runtime"
 	"slices"
 	"strings"
 	"testing"
@@ -26,6 +27,9 @@ type arguments struct {
 	Held    []int
 	Days    []int
 	Other   []int
+	Row     []basin
+	Behind  []basin
+	Flows   []int
 }
 
 // calls are functions by their names.
@@ -108,6 +112,26 @@ var bucketCalls = calls{
 	"FirstTip":    func(a arguments) []any { return all(impl.FirstTip(a.J, a.Days)) },
 }
 
+// weirCalls are the functions of chapter 5.
+var weirCalls = calls{
+	"IsRow":         func(a arguments) []any { return all(impl.IsRow(a.Row)) },
+	"AreFlows":      func(a arguments) []any { return all(impl.AreFlows(a.Flows)) },
+	"TickRow":       func(a arguments) []any { return all(impl.TickRow(a.Row, a.I)) },
+	"RunRow":        func(a arguments) []any { return all(impl.RunRow(a.Row, a.Flows)) },
+	"RowAfter":      func(a arguments) []any { return all(impl.RowAfter(a.Row, a.Flows)) },
+	"HeldAlong":     func(a arguments) []any { return all(impl.HeldAlong(a.Row, a.J, a.Flows)) },
+	"SpillsOf":      func(a arguments) []any { return all(impl.SpillsOf(a.Row, a.Flows)) },
+	"FirstSpill":    func(a arguments) []any { return all(impl.FirstSpill(a.Row, a.Flows)) },
+	"PeakOut":       func(a arguments) []any { return all(impl.PeakOut(a.Row, a.Flows)) },
+	"HeldInRow":     func(a arguments) []any { return all(impl.HeldInRow(a.Row)) },
+	"TicksToEmpty":  func(a arguments) []any { return all(impl.TicksToEmpty(a.Row)) },
+	"SteadyHeld":    func(a arguments) []any { return all(impl.SteadyHeld(a.Row, a.I)) },
+	"LeastSize":     func(a arguments) []any { return all(impl.LeastSize(a.Row, a.J, a.Flows)) },
+	"JoinRows":      func(a arguments) []any { return all(impl.JoinRows(a.Row, a.Behind)) },
+	"RunningTotals": func(a arguments) []any { return all(impl.RunningTotals(a.Flows)) },
+	"IsHeldBack":    func(a arguments) []any { return all(impl.IsHeldBack(a.Row, a.Flows)) },
+}
+
 // oddVessels returns vessels and values that are none, all with spare capacity.
 func oddVessels() []vessels {
 	list := []vessels{
@@ -172,6 +196,10 @@ func longArguments() arguments {
 		Held:  spare(times(1, 100000), mark),
 		Days:  spare(times(3, 100000), mark),
 		Other: spare(times(3, 100000), mark),
+
+		Row:    spareRow(slices.Repeat([]basin{basinWith(5, 2, 1)}, 100000)),
+		Behind: spareRow(slices.Repeat([]basin{basinWith(5, 2, 1)}, 100000)),
+		Flows:  spare(times(4, 100000), mark),
 	}
 }
 
@@ -298,6 +326,37 @@ func eachBucketArguments(f func(a arguments)) {
 	f(longArguments())
 }
 
+// spareRows returns the rows and an empty one, all with marks in their spare capacity, and nil.
+func spareRows(rows ...[]basin) [][]basin {
+	marked := [][]basin{nil, spareRow(nil)}
+	for _, row := range rows {
+		marked = append(marked, spareRow(row))
+	}
+	return marked
+}
+
+// eachWeirArguments calls f with arguments of rows: rows beside others, flows, indices and amounts, all of which may be any.
+func eachWeirArguments(f func(a arguments)) {
+	amounts := []int{least, -1, 0, 1, 3, impl.MaxFlow, impl.MaxFlow + 1, greatest}
+	indices := []int{least, -1, 0, 1, 2, 5, 6, greatest}
+	rows := spareRows(append(someRows(), noRows()...)...)
+	lists := spareLists(append(someFlows(), noFlows()...)...)
+	for i, row := range rows {
+		for j := i % 5; j < len(lists); j += 5 {
+			f(arguments{Row: row, Flows: lists[j], I: amounts[(i+j)%len(amounts)], J: indices[j*3%len(indices)], Behind: rows[i*j%len(rows)]})
+			f(arguments{Row: row, Flows: lists[j], I: amounts[j%len(amounts)], J: len(row) - 1, Behind: rows[j%len(rows)]})
+		}
+	}
+	for i, row := range spareRows(someRows()...) {
+		for j, amount := range amounts {
+			for k, index := range indices {
+				f(arguments{Row: row, Flows: lists[(i+j+k)%(2+len(someFlows()))], I: amount, J: index, Behind: rows[(i+j*k)%len(rows)]})
+			}
+		}
+	}
+	f(longArguments())
+}
+
 // whole returns a copy of a value in which every slice is as long as its memory: what is behind its length is seen too.
 func whole(v reflect.Value) reflect.Value {
 	switch v.Kind() {
@@ -366,10 +425,13 @@ func tried(call func(a arguments) []any, a arguments) (results []any, raised any
 
 // checkCall calls a function twice and checks what is promised for every call.
 func checkCall(t *testing.T, name string, call func(a arguments) []any, a arguments) {
-	before := whole(reflect.ValueOf(a)).Interface()
+	before, running := whole(reflect.ValueOf(a)).Interface(), runtime.NumGoroutine()
 	results, raised := tried(call, a)
 	if raised != nil {
 		t.Fatalf("%s panics for %s: %v", name, brief(a), raised)
+	}
+	if leavesGoroutines(running) {
+		t.Fatalf("%s of %s leaves goroutines", name, brief(a))
 	}
 	if !reflect.DeepEqual(whole(reflect.ValueOf(a)).Interface(), before) {
 		t.Fatalf("%s changes its arguments %s", name, brief(before))
@@ -377,11 +439,12 @@ func checkCall(t *testing.T, name string, call func(a arguments) []any, a argume
 	if results[len(results)-1] == false {
 		checkFails(t, name, results...)
 	}
-	if shares(a, results) {
-		t.Fatalf("%s of %s: results share memory", name, brief(a))
-	}
-	if again := call(a); !same(results, again) {
+	again := call(a)
+	if !same(results, again) {
 		t.Fatalf("%s of %s: %s, and then %s", name, brief(a), brief(results), brief(again))
+	}
+	if shares(a, append(results, again...)) {
+		t.Fatalf("%s of %s: results share memory", name, brief(a))
 	}
 }
 
@@ -406,6 +469,11 @@ func TestEveryCallIsTotalAndLeavesItsArguments(t *testing.T) {
 			checkCall(t, name, call, a)
 		}
 	})
+	eachWeirArguments(func(a arguments) {
+		for name, call := range weirCalls {
+			checkCall(t, name, call, a)
+		}
+	})
 }
 
 // plainCalls are arguments without spare capacity, and the functions that are called with them.
@@ -427,6 +495,9 @@ func plainCalls() map[*arguments]calls {
 		{
 			Caps: []int{2, 3, 5}, Held: []int{1, 2, 3}, I: 7, J: 4, K: 5, Days: []int{3, 2, 9}, Other: []int{1, 10},
 		}: bucketCalls,
+		{
+			Row: []basin{basinWith(5, 2, 1), basinWith(9, 1, 0)}, Behind: []basin{basinWith(3, 0, 3)}, Flows: []int{4, 4, 0, 0}, I: 3, J: 1,
+		}: weirCalls,
 	}
 }
 
@@ -435,6 +506,7 @@ func spared(a arguments) arguments {
 	a.V, a.W, a.Moves = spareVessels(a.V), spareVessels(a.W), spareMoves(a.Moves)
 	a.Inflows, a.Chain = spare(a.Inflows, mark), spareChain(a.Chain)
 	a.Caps, a.Held, a.Days, a.Other = spare(a.Caps, mark), spare(a.Held, mark), spare(a.Days, mark), spare(a.Other, mark)
+	a.Row, a.Behind, a.Flows = spareRow(a.Row), spareRow(a.Behind), spare(a.Flows, mark)
 	return a
 }
 
@@ -458,7 +530,7 @@ func TestResultsStayWhenArgumentsChange(t *testing.T) {
 			kept[name] = call(a)
 			results[name] = fmt.Sprint(kept[name]...)
 		}
-		for _, numbers := range [][]int{a.V.Sizes, a.V.Held, a.W.Sizes, a.W.Held, a.Inflows, a.Caps, a.Held, a.Days, a.Other} {
+		for _, numbers := range [][]int{a.V.Sizes, a.V.Held, a.W.Sizes, a.W.Held, a.Inflows, a.Caps, a.Held, a.Days, a.Other, a.Flows} {
 			for i := range numbers {
 				numbers[i] = mark
 			}
@@ -468,6 +540,11 @@ func TestResultsStayWhenArgumentsChange(t *testing.T) {
 		}
 		for i := range a.Chain {
 			a.Chain[i] = siphon{Size: mark, Low: mark, Start: mark, Flow: mark}
+		}
+		for _, row := range [][]basin{a.Row, a.Behind} {
+			for i := range row {
+				row[i] = basinWith(mark, mark, mark)
+			}
 		}
 		for name, want := range results {
 			if got := fmt.Sprint(kept[name]...); got != want {

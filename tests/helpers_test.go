@@ -4,7 +4,9 @@ import (
 	"fmt"
 	"math"
 	"reflect"
+	"runtime"
 	"testing"
+	"time"
 
 	"loop.example/g01208/impl"
 )
@@ -14,6 +16,7 @@ type (
 	move    = impl.Move
 	siphon  = impl.Siphon
 	level   = impl.Level
+	basin   = impl.Basin
 )
 
 // tap and drain are the same number; two names tell which one is meant.
@@ -33,6 +36,11 @@ const mark = 7777
 // fromTo returns the move with these numbers, which may be any.
 func fromTo(from int, to int) move {
 	return move{From: from, To: to}
+}
+
+// basinWith returns the basin with these numbers, which may be any.
+func basinWith(size int, outlet int, held int) basin {
+	return basin{Size: size, Outlet: outlet, Held: held}
 }
 
 // read returns the vessels with a text that is known to be one.
@@ -145,6 +153,11 @@ func spareMoves(moves []move) []move {
 	return spare(moves, fromTo(mark, mark))
 }
 
+// spareRow returns a row with marks in its spare capacity.
+func spareRow(row []basin) []basin {
+	return spare(row, basinWith(mark, mark, mark))
+}
+
 // repeated returns a list of so many times the same move.
 func repeated(m move, times int) []move {
 	moves := make([]move, times)
@@ -161,6 +174,17 @@ func times(x int, count int) []int {
 		list[i] = x
 	}
 	return list
+}
+
+// leavesGoroutines reports whether more goroutines are there than before. One that has told its end may need a moment to be gone.
+func leavesGoroutines(before int) bool {
+	for range 1000 {
+		if runtime.NumGoroutine() <= before {
+			return false
+		}
+		time.Sleep(time.Millisecond)
+	}
+	return true
 }
 
 // sumOf returns the sum of numbers.
