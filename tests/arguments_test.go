@@ -30,6 +30,10 @@ type arguments struct {
 	Row     []basin
 	Behind  []basin
 	Flows   []int
+	Tanks   []tank
+	A, B    tank
+	P, Q    ratio
+	Joins   [][]int
 }
 
 // calls are functions by their names.
@@ -132,6 +136,27 @@ var weirCalls = calls{
 	"IsHeldBack":    func(a arguments) []any { return all(impl.IsHeldBack(a.Row, a.Flows)) },
 }
 
+// levelCalls are the functions of chapter 6.
+var levelCalls = calls{
+	"IsTank":        func(a arguments) []any { return all(impl.IsTank(a.A)) },
+	"LevelOf":       func(a arguments) []any { return all(impl.LevelOf(a.A)) },
+	"AreTanks":      func(a arguments) []any { return all(impl.AreTanks(a.Tanks)) },
+	"CommonLevel":   func(a arguments) []any { return all(impl.CommonLevel(a.Tanks)) },
+	"WaterAfter":    func(a arguments) []any { return all(impl.WaterAfter(a.Tanks)) },
+	"WetTanks":      func(a arguments) []any { return all(impl.WetTanks(a.Tanks)) },
+	"WaterBelow":    func(a arguments) []any { return all(impl.WaterBelow(a.Tanks, a.P)) },
+	"WaterForLevel": func(a arguments) []any { return all(impl.WaterForLevel(a.Tanks, a.P)) },
+	"FlowInto":      func(a arguments) []any { return all(impl.FlowInto(a.Tanks, a.I)) },
+	"PipeLevels":    func(a arguments) []any { return all(impl.PipeLevels(a.A, a.B, a.J)) },
+	"FlowThrough":   func(a arguments) []any { return all(impl.FlowThrough(a.A, a.B, a.J)) },
+	"AreJoins":      func(a arguments) []any { return all(impl.AreJoins(a.Tanks, a.Joins)) },
+	"GroupsOf":      func(a arguments) []any { return all(impl.GroupsOf(a.Tanks, a.Joins)) },
+	"GroupLevels":   func(a arguments) []any { return all(impl.GroupLevels(a.Tanks, a.Joins)) },
+	"IsAtRest":      func(a arguments) []any { return all(impl.IsAtRest(a.Tanks, a.Joins)) },
+	"FloodOrder":    func(a arguments) []any { return all(impl.FloodOrder(a.Tanks)) },
+	"AddRatios":     func(a arguments) []any { return all(impl.AddRatios(a.P, a.Q)) },
+}
+
 // oddVessels returns vessels and values that are none, all with spare capacity.
 func oddVessels() []vessels {
 	list := []vessels{
@@ -200,6 +225,13 @@ func longArguments() arguments {
 		Row:    spareRow(slices.Repeat([]basin{basinWith(5, 2, 1)}, 100000)),
 		Behind: spareRow(slices.Repeat([]basin{basinWith(5, 2, 1)}, 100000)),
 		Flows:  spare(times(4, 100000), mark),
+
+		Tanks: spareTanks(slices.Repeat([]tank{wide}, 100000)),
+		A:     wide,
+		B:     high,
+		P:     part(4, 1),
+		Q:     part(1, 2),
+		Joins: spareJoins(append(slices.Repeat([][]int{{0, 1}}, 1000), times(0, 100000))),
 	}
 }
 
@@ -357,12 +389,51 @@ func eachWeirArguments(f func(a arguments)) {
 	f(longArguments())
 }
 
+// eachLevelArguments calls f with arguments of tanks: lists of them beside joins, ratios, indices and heights, all of which may be any.
+func eachLevelArguments(f func(a arguments)) {
+	indices := []int{least, -1, 0, 1, 5, 6, greatest}
+	heights := []int{least, -1, 0, 3, 4, 100, 1000, 1001, greatest}
+	ratios := slices.Concat(someLevels, someRatios, noLevels, noRatios)
+	single := append([]tank{wide, high, tankWith(1, 0, 0), tankWith(50, 100, impl.MaxWater), tankWith(1, 3, 9)}, noTanks...)
+	joins := append(slices.Clone(noJoins), nil, [][]int{})
+	for _, c := range groupCases {
+		joins = append(joins, c.joins)
+	}
+	lists := append(tankLists(), six())
+	for i, tanks := range append(lists, noTankLists()...) {
+		for j, list := range joins {
+			// All joins beside tanks, but only some of them beside lists that are none.
+			if i < len(lists) || j%9 == i%9 {
+				f(arguments{Tanks: spareTanks(tanks), Joins: spareJoins(list), I: indices[(i+j)%len(indices)], P: ratios[(i*7+j)%len(ratios)], A: single[j%len(single)], B: single[i%len(single)], J: heights[(i+j)%len(heights)], Q: ratios[i*j%len(ratios)]})
+			}
+		}
+	}
+	for i, a := range single {
+		for j, b := range single {
+			for k, height := range heights {
+				f(arguments{A: a, B: b, J: height, P: ratios[(i*31+j)%len(ratios)], Q: ratios[(j*17+k)%len(ratios)]})
+			}
+		}
+	}
+	for i, p := range ratios {
+		for j := i % 3; j < len(ratios); j += 3 {
+			f(arguments{Tanks: lists[j%len(lists)], P: p, Q: ratios[j]})
+		}
+	}
+	f(longArguments())
+}
+
 // whole returns a copy of a value in which every slice is as long as its memory: what is behind its length is seen too.
 func whole(v reflect.Value) reflect.Value {
 	switch v.Kind() {
 	case reflect.Slice:
 		longer := reflect.MakeSlice(v.Type(), v.Cap(), v.Cap())
 		reflect.Copy(longer, v.Slice(0, v.Cap()))
+		if v.Type().Elem().Kind() == reflect.Slice {
+			for i := range longer.Len() {
+				longer.Index(i).Set(whole(longer.Index(i)))
+			}
+		}
 		return longer
 	case reflect.Struct:
 		s := reflect.New(v.Type()).Elem()
@@ -474,6 +545,11 @@ func TestEveryCallIsTotalAndLeavesItsArguments(t *testing.T) {
 			checkCall(t, name, call, a)
 		}
 	})
+	eachLevelArguments(func(a arguments) {
+		for name, call := range levelCalls {
+			checkCall(t, name, call, a)
+		}
+	})
 }
 
 // plainCalls are arguments without spare capacity, and the functions that are called with them.
@@ -498,6 +574,9 @@ func plainCalls() map[*arguments]calls {
 		{
 			Row: []basin{basinWith(5, 2, 1), basinWith(9, 1, 0)}, Behind: []basin{basinWith(3, 0, 3)}, Flows: []int{4, 4, 0, 0}, I: 3, J: 1,
 		}: weirCalls,
+		{
+			Tanks: six(), A: wide, B: high, P: part(7, 2), Q: part(1, 3), Joins: [][]int{{3, 1}, {5, 0}, {4, 3}}, I: 3, J: 4,
+		}: levelCalls,
 	}
 }
 
@@ -507,6 +586,7 @@ func spared(a arguments) arguments {
 	a.Inflows, a.Chain = spare(a.Inflows, mark), spareChain(a.Chain)
 	a.Caps, a.Held, a.Days, a.Other = spare(a.Caps, mark), spare(a.Held, mark), spare(a.Days, mark), spare(a.Other, mark)
 	a.Row, a.Behind, a.Flows = spareRow(a.Row), spareRow(a.Behind), spare(a.Flows, mark)
+	a.Tanks, a.Joins = spareTanks(a.Tanks), spareJoins(a.Joins)
 	return a
 }
 
@@ -530,7 +610,7 @@ func TestResultsStayWhenArgumentsChange(t *testing.T) {
 			kept[name] = call(a)
 			results[name] = fmt.Sprint(kept[name]...)
 		}
-		for _, numbers := range [][]int{a.V.Sizes, a.V.Held, a.W.Sizes, a.W.Held, a.Inflows, a.Caps, a.Held, a.Days, a.Other, a.Flows} {
+		for _, numbers := range append(slices.Clone(a.Joins), a.V.Sizes, a.V.Held, a.W.Sizes, a.W.Held, a.Inflows, a.Caps, a.Held, a.Days, a.Other, a.Flows) {
 			for i := range numbers {
 				numbers[i] = mark
 			}
@@ -545,6 +625,12 @@ func TestResultsStayWhenArgumentsChange(t *testing.T) {
 			for i := range row {
 				row[i] = basinWith(mark, mark, mark)
 			}
+		}
+		for i := range a.Tanks {
+			a.Tanks[i] = tankWith(mark, mark, mark)
+		}
+		for i := range a.Joins {
+			a.Joins[i] = []int{mark}
 		}
 		for name, want := range results {
 			if got := fmt.Sprint(kept[name]...); got != want {

@@ -3,6 +3,7 @@ package tests
 import (
 	"fmt"
 	"math"
+	"math/big"
 	"reflect"
 	"runtime"
 	"testing"
@@ -17,6 +18,8 @@ type (
 	siphon  = impl.Siphon
 	level   = impl.Level
 	basin   = impl.Basin
+	ratio   = impl.Ratio
+	tank    = impl.Tank
 )
 
 // tap and drain are the same number; two names tell which one is meant.
@@ -41,6 +44,39 @@ func fromTo(from int, to int) move {
 // basinWith returns the basin with these numbers, which may be any.
 func basinWith(size int, outlet int, held int) basin {
 	return basin{Size: size, Outlet: outlet, Held: held}
+}
+
+// part returns the ratio with these numbers, which may be any.
+func part(num int, den int) ratio {
+	return ratio{Num: num, Den: den}
+}
+
+// tankWith returns the tank with these numbers, which may be any.
+func tankWith(area int, floor int, water int) tank {
+	return tank{Area: area, Floor: floor, Water: water}
+}
+
+// rat returns a ratio as a number of any size and fineness; one with the Den 0 has failed and is taken as 0.
+func rat(r ratio) *big.Rat {
+	if r.Den == 0 {
+		return new(big.Rat)
+	}
+	return big.NewRat(int64(r.Num), int64(r.Den))
+}
+
+// exact returns a number as a ratio in lowest terms.
+func exact(x *big.Rat) ratio {
+	return part(int(x.Num().Int64()), int(x.Denom().Int64()))
+}
+
+// difference returns a less b.
+func difference(a ratio, b ratio) *big.Rat {
+	return new(big.Rat).Sub(rat(a), rat(b))
+}
+
+// isLowest reports whether a ratio is in lowest terms, with a Den of at least 1.
+func isLowest(r ratio) bool {
+	return r.Den >= 1 && exact(rat(r)) == r
 }
 
 // read returns the vessels with a text that is known to be one.
@@ -156,6 +192,20 @@ func spareMoves(moves []move) []move {
 // spareRow returns a row with marks in its spare capacity.
 func spareRow(row []basin) []basin {
 	return spare(row, basinWith(mark, mark, mark))
+}
+
+// spareTanks returns tanks with marks in their spare capacity.
+func spareTanks(tanks []tank) []tank {
+	return spare(tanks, tankWith(mark, mark, mark))
+}
+
+// spareJoins returns joins with marks in their spare capacity and in that of each one.
+func spareJoins(joins [][]int) [][]int {
+	marked := make([][]int, len(joins))
+	for i, join := range joins {
+		marked[i] = spare(join, mark)
+	}
+	return spare(marked, []int{mark})
 }
 
 // repeated returns a list of so many times the same move.
