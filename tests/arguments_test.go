@@ -34,6 +34,8 @@ type arguments struct {
 	A, B    tank
 	P, Q    ratio
 	Joins   [][]int
+	Brine   brine
+	Goal    ratio
 }
 
 // calls are functions by their names.
@@ -157,6 +159,24 @@ var levelCalls = calls{
 	"AddRatios":     func(a arguments) []any { return all(impl.AddRatios(a.P, a.Q)) },
 }
 
+// saltCalls are the functions of chapter 7.
+var saltCalls = calls{
+	"IsRatio":      func(a arguments) []any { return all(impl.IsRatio(a.P)) },
+	"IsBrine":      func(a arguments) []any { return all(impl.IsBrine(a.Brine)) },
+	"ShareOf":      func(a arguments) []any { return all(impl.ShareOf(a.Brine, a.I)) },
+	"TotalSalt":    func(a arguments) []any { return all(impl.TotalSalt(a.Brine)) },
+	"PourAmount":   func(a arguments) []any { return all(impl.PourAmount(a.Brine, a.I, a.J, a.K)) },
+	"PourMove":     func(a arguments) []any { return all(impl.PourMove(a.Brine, a.M)) },
+	"PourMoves":    func(a arguments) []any { return all(impl.PourMoves(a.Brine, a.Moves)) },
+	"SharesOf":     func(a arguments) []any { return all(impl.SharesOf(a.Brine)) },
+	"AreEven":      func(a arguments) []any { return all(impl.AreEven(a.Brine)) },
+	"MixedShare":   func(a arguments) []any { return all(impl.MixedShare(a.Brine)) },
+	"ThinShare":    func(a arguments) []any { return all(impl.ThinShare(a.I, a.J, a.K)) },
+	"TimesToThin":  func(a arguments) []any { return all(impl.TimesToThin(a.I, a.J, a.P)) },
+	"BlendAmounts": func(a arguments) []any { return all(impl.BlendAmounts(a.P, a.Q, a.Goal)) },
+	"PlanToShare":  func(a arguments) []any { return all(impl.PlanToShare(a.Brine, a.Goal, a.K)) },
+}
+
 // oddVessels returns vessels and values that are none, all with spare capacity.
 func oddVessels() []vessels {
 	list := []vessels{
@@ -232,6 +252,9 @@ func longArguments() arguments {
 		P:     part(4, 1),
 		Q:     part(1, 2),
 		Joins: spareJoins(append(slices.Repeat([][]int{{0, 1}}, 1000), times(0, 100000))),
+
+		Brine: spareBrine(brine{Vessels: vessels{Sizes: times(1, 100000), Held: times(1, 100000)}, Salt: wholes(times(0, 100000)...)}),
+		Goal:  part(1, 4),
 	}
 }
 
@@ -423,6 +446,34 @@ func eachLevelArguments(f func(a arguments)) {
 	f(longArguments())
 }
 
+// eachSaltArguments calls f with arguments of brine: brine beside moves, lists of them, amounts, indices and ratios, and sizes beside what is taken, all of which may be any.
+func eachSaltArguments(f func(a arguments)) {
+	numbers := []int{least, -1, 0, 1, 2, 3, 4, 5, 50, 51, 60, 61, greatest}
+	ratios := append(slices.Clone(fineRatios), noFineRatios...)
+	moves, lists := oddMoves(), oddLists()
+	for i, b := range append(brines(), nearlyTooFine()) {
+		for j, x := range numbers {
+			for k, y := range numbers {
+				f(arguments{Brine: spareBrine(b), I: x, J: y, K: numbers[(i+j+k)%len(numbers)], M: moves[(i*7+j*13+k)%len(moves)], Moves: lists[(j+k)%len(lists)], P: ratios[(i+j*k)%len(ratios)], Q: ratios[(i*j+k)%len(ratios)], Goal: ratios[(i*3+j*5+k*7)%len(ratios)]})
+			}
+		}
+		for j, m := range moves {
+			f(arguments{Brine: spareBrine(b), I: 0, J: 1, K: j % 5, M: m, Moves: lists[j%len(lists)], P: ratios[j%len(ratios)], Goal: part(1, 2)})
+		}
+	}
+	for i, b := range noBrines() {
+		f(arguments{Brine: spareBrine(b), I: i % 3, J: 1, K: i % 5, M: fromTo(tap, 0), Moves: lists[i%len(lists)], P: ratios[i%len(ratios)], Goal: part(0, 1)})
+		f(arguments{Brine: b, I: 1, J: 0, K: 0, M: fromTo(0, 1), P: ratios[i%len(ratios)], Goal: part(1, 2)})
+	}
+	for i, p := range ratios {
+		for j, q := range ratios {
+			f(arguments{Brine: sea(), I: numbers[i%len(numbers)], J: numbers[j%len(numbers)], P: p, Q: q, Goal: ratios[(i*j+i+j)%len(ratios)]})
+			f(arguments{Brine: sea(), I: 4, J: i % 5, K: j % 4, P: p, Q: p, Goal: q})
+		}
+	}
+	f(longArguments())
+}
+
 // whole returns a copy of a value in which every slice is as long as its memory: what is behind its length is seen too.
 func whole(v reflect.Value) reflect.Value {
 	switch v.Kind() {
@@ -550,6 +601,11 @@ func TestEveryCallIsTotalAndLeavesItsArguments(t *testing.T) {
 			checkCall(t, name, call, a)
 		}
 	})
+	eachSaltArguments(func(a arguments) {
+		for name, call := range saltCalls {
+			checkCall(t, name, call, a)
+		}
+	})
 }
 
 // plainCalls are arguments without spare capacity, and the functions that are called with them.
@@ -577,6 +633,10 @@ func plainCalls() map[*arguments]calls {
 		{
 			Tanks: six(), A: wide, B: high, P: part(7, 2), Q: part(1, 3), Joins: [][]int{{3, 1}, {5, 0}, {4, 3}}, I: 3, J: 4,
 		}: levelCalls,
+		{
+			Brine: brineOf("3/4,1/3", part(1, 1), part(1, 2)), M: fromTo(0, 1), Moves: []move{fromTo(0, 1), fromTo(tap, 0), fromTo(1, 0)},
+			I: 0, J: 1, K: 2, P: part(1, 2), Q: part(1, 5), Goal: part(1, 4),
+		}: saltCalls,
 	}
 }
 
@@ -587,6 +647,7 @@ func spared(a arguments) arguments {
 	a.Caps, a.Held, a.Days, a.Other = spare(a.Caps, mark), spare(a.Held, mark), spare(a.Days, mark), spare(a.Other, mark)
 	a.Row, a.Behind, a.Flows = spareRow(a.Row), spareRow(a.Behind), spare(a.Flows, mark)
 	a.Tanks, a.Joins = spareTanks(a.Tanks), spareJoins(a.Joins)
+	a.Brine = spareBrine(a.Brine)
 	return a
 }
 
@@ -610,7 +671,7 @@ func TestResultsStayWhenArgumentsChange(t *testing.T) {
 			kept[name] = call(a)
 			results[name] = fmt.Sprint(kept[name]...)
 		}
-		for _, numbers := range append(slices.Clone(a.Joins), a.V.Sizes, a.V.Held, a.W.Sizes, a.W.Held, a.Inflows, a.Caps, a.Held, a.Days, a.Other, a.Flows) {
+		for _, numbers := range append(slices.Clone(a.Joins), a.V.Sizes, a.V.Held, a.W.Sizes, a.W.Held, a.Inflows, a.Caps, a.Held, a.Days, a.Other, a.Flows, a.Brine.Vessels.Sizes, a.Brine.Vessels.Held) {
 			for i := range numbers {
 				numbers[i] = mark
 			}
@@ -631,6 +692,9 @@ func TestResultsStayWhenArgumentsChange(t *testing.T) {
 		}
 		for i := range a.Joins {
 			a.Joins[i] = []int{mark}
+		}
+		for i := range a.Brine.Salt {
+			a.Brine.Salt[i] = part(mark, mark)
 		}
 		for name, want := range results {
 			if got := fmt.Sprint(kept[name]...); got != want {

@@ -20,6 +20,7 @@ type (
 	basin   = impl.Basin
 	ratio   = impl.Ratio
 	tank    = impl.Tank
+	brine   = impl.Brine
 )
 
 // tap and drain are the same number; two names tell which one is meant.
@@ -54,6 +55,12 @@ func part(num int, den int) ratio {
 // tankWith returns the tank with these numbers, which may be any.
 func tankWith(area int, floor int, water int) tank {
 	return tank{Area: area, Floor: floor, Water: water}
+}
+
+// brineOf returns the brine of vessels with a text, with that salt, which may be any.
+func brineOf(s string, salt ...ratio) brine {
+	v, _ := impl.ParseVessels(s)
+	return brine{Vessels: v, Salt: salt}
 }
 
 // rat returns a ratio as a number of any size and fineness; one with the Den 0 has failed and is taken as 0.
@@ -206,6 +213,11 @@ func spareJoins(joins [][]int) [][]int {
 		marked[i] = spare(join, mark)
 	}
 	return spare(marked, []int{mark})
+}
+
+// spareBrine returns brine with marks in the spare capacity of its lists.
+func spareBrine(b brine) brine {
+	return brine{Vessels: spareVessels(b.Vessels), Salt: spare(b.Salt, part(mark, mark))}
 }
 
 // repeated returns a list of so many times the same move.
