@@ -36,6 +36,9 @@ type arguments struct {
 	Joins   [][]int
 	Brine   brine
 	Goal    ratio
+	Flight  flight
+	Ships   string
+	Up      bool
 }
 
 // calls are functions by their names.
@@ -177,6 +180,28 @@ var saltCalls = calls{
 	"PlanToShare":  func(a arguments) []any { return all(impl.PlanToShare(a.Brine, a.Goal, a.K)) },
 }
 
+// lockCalls are the functions of chapter 8.
+var lockCalls = calls{
+	"IsFlight":       func(a arguments) []any { return all(impl.IsFlight(a.Flight)) },
+	"IsTraffic":      func(a arguments) []any { return all(impl.IsTraffic(a.Ships)) },
+	"PassLock":       func(a arguments) []any { return all(impl.PassLock(a.Flight, a.I, a.Up)) },
+	"FillLock":       func(a arguments) []any { return all(impl.FillLock(a.Flight, a.I)) },
+	"EmptyLock":      func(a arguments) []any { return all(impl.EmptyLock(a.Flight, a.I)) },
+	"RunShip":        func(a arguments) []any { return all(impl.RunShip(a.Flight, a.Up)) },
+	"RunShips":       func(a arguments) []any { return all(impl.RunShips(a.Flight, a.Ships)) },
+	"StretchChanges": func(a arguments) []any { return all(impl.StretchChanges(a.Flight, a.Ships)) },
+	"WaterUsed":      func(a arguments) []any { return all(impl.WaterUsed(a.Flight, a.Ships)) },
+	"FillingsOf":     func(a arguments) []any { return all(impl.FillingsOf(a.Flight, a.Ships)) },
+	"WaterInLocks":   func(a arguments) []any { return all(impl.WaterInLocks(a.Flight)) },
+	"LeastTraffic":   func(a arguments) []any { return all(impl.LeastTraffic(a.Flight, a.I, a.J)) },
+	"LeastWaterFor":  func(a arguments) []any { return all(impl.LeastWaterFor(a.Flight, a.I, a.J)) },
+	"MostWaterFor":   func(a arguments) []any { return all(impl.MostWaterFor(a.Flight, a.I, a.J)) },
+	"SavedShare":     func(a arguments) []any { return all(impl.SavedShare(a.I)) },
+	"WaterSaved":     func(a arguments) []any { return all(impl.WaterSaved(a.I, a.J)) },
+	"HeightOfFlight": func(a arguments) []any { return all(impl.HeightOfFlight(a.Flight)) },
+	"ReverseFlight":  func(a arguments) []any { return all(impl.ReverseFlight(a.Flight)) },
+}
+
 // oddVessels returns vessels and values that are none, all with spare capacity.
 func oddVessels() []vessels {
 	list := []vessels{
@@ -255,6 +280,9 @@ func longArguments() arguments {
 
 		Brine: spareBrine(brine{Vessels: vessels{Sizes: times(1, 100000), Held: times(1, 100000)}, Salt: wholes(times(0, 100000)...)}),
 		Goal:  part(1, 4),
+
+		Flight: spareFlight(flight{Lifts: times(5, 100000), Full: make([]bool, 100000)}),
+		Ships:  strings.Repeat("ud", 100000),
 	}
 }
 
@@ -474,6 +502,30 @@ func eachSaltArguments(f func(a arguments)) {
 	f(longArguments())
 }
 
+// eachLockArguments calls f with arguments of locks: flights beside traffic, indices and numbers of ships, and lifts beside basins, all of which may be any.
+func eachLockArguments(f func(a arguments)) {
+	numbers := []int{least, -1, 0, 1, 2, 5, 6, 10, 11, 20, 21, greatest}
+	flights, texts := someFlights(), append(slices.Clone(someTraffic), noTraffic()[:40]...)
+	for i, g := range flights {
+		for j, x := range numbers {
+			for k, y := range numbers {
+				f(arguments{Flight: spareFlight(g), Ships: texts[(i*31+j*7+k)%len(texts)], I: x, J: y, Up: (j+k)%2 == 0})
+			}
+		}
+		for j, ships := range someTraffic {
+			f(arguments{Flight: spareFlight(g), Ships: ships, I: j % len(g.Lifts), J: j % 11, Up: j%2 == 0})
+		}
+	}
+	for i, g := range noFlights() {
+		f(arguments{Flight: spareFlight(g), Ships: texts[i%len(texts)], I: i % 7, J: i % 11, Up: i%2 == 0})
+		f(arguments{Flight: g, Ships: "ud", I: 0, J: 1, Up: i%2 == 1})
+	}
+	for i, ships := range noTraffic() {
+		f(arguments{Flight: flights[i%len(flights)], Ships: ships, I: numbers[i%len(numbers)], J: 1, Up: i%2 == 0})
+	}
+	f(longArguments())
+}
+
 // whole returns a copy of a value in which every slice is as long as its memory: what is behind its length is seen too.
 func whole(v reflect.Value) reflect.Value {
 	switch v.Kind() {
@@ -606,6 +658,11 @@ func TestEveryCallIsTotalAndLeavesItsArguments(t *testing.T) {
 			checkCall(t, name, call, a)
 		}
 	})
+	eachLockArguments(func(a arguments) {
+		for name, call := range lockCalls {
+			checkCall(t, name, call, a)
+		}
+	})
 }
 
 // plainCalls are arguments without spare capacity, and the functions that are called with them.
@@ -637,6 +694,12 @@ func plainCalls() map[*arguments]calls {
 			Brine: brineOf("3/4,1/3", part(1, 1), part(1, 2)), M: fromTo(0, 1), Moves: []move{fromTo(0, 1), fromTo(tap, 0), fromTo(1, 0)},
 			I: 0, J: 1, K: 2, P: part(1, 2), Q: part(1, 5), Goal: part(1, 4),
 		}: saltCalls,
+		{
+			Flight: flightOf("#.#", 3, 2, 4), Ships: "uddu", I: 1, J: 2, Up: true,
+		}: lockCalls,
+		{
+			Flight: flightOf(".#.", 3, 2, 4), Ships: "duu", I: 1, J: 3,
+		}: lockCalls,
 	}
 }
 
@@ -647,7 +710,7 @@ func spared(a arguments) arguments {
 	a.Caps, a.Held, a.Days, a.Other = spare(a.Caps, mark), spare(a.Held, mark), spare(a.Days, mark), spare(a.Other, mark)
 	a.Row, a.Behind, a.Flows = spareRow(a.Row), spareRow(a.Behind), spare(a.Flows, mark)
 	a.Tanks, a.Joins = spareTanks(a.Tanks), spareJoins(a.Joins)
-	a.Brine = spareBrine(a.Brine)
+	a.Brine, a.Flight = spareBrine(a.Brine), spareFlight(a.Flight)
 	return a
 }
 
@@ -671,7 +734,7 @@ func TestResultsStayWhenArgumentsChange(t *testing.T) {
 			kept[name] = call(a)
 			results[name] = fmt.Sprint(kept[name]...)
 		}
-		for _, numbers := range append(slices.Clone(a.Joins), a.V.Sizes, a.V.Held, a.W.Sizes, a.W.Held, a.Inflows, a.Caps, a.Held, a.Days, a.Other, a.Flows, a.Brine.Vessels.Sizes, a.Brine.Vessels.Held) {
+		for _, numbers := range append(slices.Clone(a.Joins), a.V.Sizes, a.V.Held, a.W.Sizes, a.W.Held, a.Inflows, a.Caps, a.Held, a.Days, a.Other, a.Flows, a.Brine.Vessels.Sizes, a.Brine.Vessels.Held, a.Flight.Lifts) {
 			for i := range numbers {
 				numbers[i] = mark
 			}
@@ -695,6 +758,9 @@ func TestResultsStayWhenArgumentsChange(t *testing.T) {
 		}
 		for i := range a.Brine.Salt {
 			a.Brine.Salt[i] = part(mark, mark)
+		}
+		for i := range a.Flight.Full {
+			a.Flight.Full[i] = !a.Flight.Full[i]
 		}
 		for name, want := range results {
 			if got := fmt.Sprint(kept[name]...); got != want {

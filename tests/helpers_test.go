@@ -21,6 +21,7 @@ type (
 	ratio   = impl.Ratio
 	tank    = impl.Tank
 	brine   = impl.Brine
+	flight  = impl.Flight
 )
 
 // tap and drain are the same number; two names tell which one is meant.
@@ -61,6 +62,15 @@ func tankWith(area int, floor int, water int) tank {
 func brineOf(s string, salt ...ratio) brine {
 	v, _ := impl.ParseVessels(s)
 	return brine{Vessels: v, Salt: salt}
+}
+
+// flightOf returns the flight with these lifts and, from the lowest one up, # for each full chamber and . for each empty one. Lifts may be any, also more or fewer.
+func flightOf(chambers string, lifts ...int) flight {
+	f := flight{Lifts: lifts}
+	for _, c := range chambers {
+		f.Full = append(f.Full, c == '#')
+	}
+	return f
 }
 
 // rat returns a ratio as a number of any size and fineness; one with the Den 0 has failed and is taken as 0.
@@ -218,6 +228,11 @@ func spareJoins(joins [][]int) [][]int {
 // spareBrine returns brine with marks in the spare capacity of its lists.
 func spareBrine(b brine) brine {
 	return brine{Vessels: spareVessels(b.Vessels), Salt: spare(b.Salt, part(mark, mark))}
+}
+
+// spareFlight returns a flight with marks in the spare capacity of its lists.
+func spareFlight(f flight) flight {
+	return flight{Lifts: spare(f.Lifts, mark), Full: spare(f.Full, true)}
 }
 
 // repeated returns a list of so many times the same move.
