@@ -39,6 +39,9 @@ type arguments struct {
 	Flight  flight
 	Ships   string
 	Up      bool
+	C, D    clock
+	Wheel   scoops
+	Scale   scale
 }
 
 // calls are functions by their names.
@@ -202,6 +205,26 @@ var lockCalls = calls{
 	"ReverseFlight":  func(a arguments) []any { return all(impl.ReverseFlight(a.Flight)) },
 }
 
+// clockCalls are the functions of chapter 9.
+var clockCalls = calls{
+	"IsClock":       func(a arguments) []any { return all(impl.IsClock(a.C)) },
+	"DropOf":        func(a arguments) []any { return all(impl.DropOf(a.C)) },
+	"ClockAfter":    func(a arguments) []any { return all(impl.ClockAfter(a.C, a.I)) },
+	"LevelsOfClock": func(a arguments) []any { return all(impl.LevelsOfClock(a.C)) },
+	"TimeToEmpty":   func(a arguments) []any { return all(impl.TimeToEmpty(a.C)) },
+	"TimeOfLevel":   func(a arguments) []any { return all(impl.TimeOfLevel(a.C, a.J)) },
+	"MarksOf":       func(a arguments) []any { return all(impl.MarksOf(a.C, a.K)) },
+	"LeastLevelFor": func(a arguments) []any { return all(impl.LeastLevelFor(a.J, a.I)) },
+	"FirstMeeting":  func(a arguments) []any { return all(impl.FirstMeeting(a.C, a.D)) },
+	"IsWheel":       func(a arguments) []any { return all(impl.IsWheel(a.Wheel)) },
+	"WheelAfter":    func(a arguments) []any { return all(impl.WheelAfter(a.Wheel, a.I)) },
+	"TurnTime":      func(a arguments) []any { return all(impl.TurnTime(a.Wheel)) },
+	"TimesOfScoop":  func(a arguments) []any { return all(impl.TimesOfScoop(a.Wheel, a.K, a.I)) },
+	"SpiltByWheel":  func(a arguments) []any { return all(impl.SpiltByWheel(a.Wheel, a.I)) },
+	"ScaleEvents":   func(a arguments) []any { return all(impl.ScaleEvents(a.Scale, a.J)) },
+	"PeriodOfScale": func(a arguments) []any { return all(impl.PeriodOfScale(a.Scale)) },
+}
+
 // oddVessels returns vessels and values that are none, all with spare capacity.
 func oddVessels() []vessels {
 	list := []vessels{
@@ -283,6 +306,11 @@ func longArguments() arguments {
 
 		Flight: spareFlight(flight{Lifts: times(5, 100000), Full: make([]bool, 100000)}),
 		Ships:  strings.Repeat("ud", 100000),
+
+		C:     clockWith(1000, 100),
+		D:     clockWith(999, 100),
+		Wheel: wheelWith(2, 1, 1),
+		Scale: scaleWith(1, 1, 1000),
 	}
 }
 
@@ -526,6 +554,23 @@ func eachLockArguments(f func(a arguments)) {
 	f(longArguments())
 }
 
+// eachClockArguments calls f with arguments of clocks: clocks, wheels and scales beside times, levels, hours and scoops, all of which may be any.
+func eachClockArguments(f func(a arguments)) {
+	numbers := []int{least, -1, 0, 1, 2, 4, 24, 25, 60, 100, 101, 200, 201, 1000, 1001, 10000, 10001, greatest}
+	clocks, wheels, scales := slices.Concat(someClocks, noClocks), slices.Concat(someWheels, noWheels), slices.Concat(someScales, noScales)
+	for i, x := range numbers {
+		for j, y := range numbers {
+			f(arguments{C: clocks[(i+j)%len(someClocks)], D: clocks[(i*5+j*7)%len(clocks)], Wheel: wheels[(i+j)%len(someWheels)], Scale: scales[(i+j)%len(someScales)], I: x, J: y, K: numbers[(i*7+j*5)%len(numbers)]})
+		}
+	}
+	for i, c := range clocks {
+		for j, d := range clocks {
+			f(arguments{C: c, D: d, Wheel: wheels[(i+j)%len(wheels)], Scale: scales[(i+j)%len(scales)], I: numbers[2+j%14], J: numbers[2+i%10], K: (i + j) % 7})
+		}
+	}
+	f(longArguments())
+}
+
 // whole returns a copy of a value in which every slice is as long as its memory: what is behind its length is seen too.
 func whole(v reflect.Value) reflect.Value {
 	switch v.Kind() {
@@ -663,6 +708,11 @@ func TestEveryCallIsTotalAndLeavesItsArguments(t *testing.T) {
 			checkCall(t, name, call, a)
 		}
 	})
+	eachClockArguments(func(a arguments) {
+		for name, call := range clockCalls {
+			checkCall(t, name, call, a)
+		}
+	})
 }
 
 // plainCalls are arguments without spare capacity, and the functions that are called with them.
@@ -700,6 +750,9 @@ func plainCalls() map[*arguments]calls {
 		{
 			Flight: flightOf(".#.", 3, 2, 4), Ships: "duu", I: 1, J: 3,
 		}: lockCalls,
+		{
+			C: bowl, D: clockWith(20, 2), Wheel: mill, Scale: balance, I: 30, J: 3, K: 2,
+		}: clockCalls,
 	}
 }
 

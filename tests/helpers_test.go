@@ -22,6 +22,9 @@ type (
 	tank    = impl.Tank
 	brine   = impl.Brine
 	flight  = impl.Flight
+	clock   = impl.Clock
+	scoops  = impl.Wheel
+	scale   = impl.Scale
 )
 
 // tap and drain are the same number; two names tell which one is meant.
@@ -71,6 +74,21 @@ func flightOf(chambers string, lifts ...int) flight {
 		f.Full = append(f.Full, c == '#')
 	}
 	return f
+}
+
+// clockWith returns the clock with these numbers, which may be any.
+func clockWith(level int, divide int) clock {
+	return clock{Level: level, Divide: divide}
+}
+
+// wheelWith returns the wheel of scoops with these numbers, which may be any.
+func wheelWith(count int, room int, rate int) scoops {
+	return scoops{Scoops: count, Room: room, Rate: rate}
+}
+
+// scaleWith returns the scale with these numbers, which may be any.
+func scaleWith(left int, right int, limit int) scale {
+	return scale{Left: left, Right: right, Limit: limit}
 }
 
 // rat returns a ratio as a number of any size and fineness; one with the Den 0 has failed and is taken as 0.
