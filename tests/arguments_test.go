@@ -42,6 +42,9 @@ type arguments struct {
 	C, D    clock
 	Wheel   scoops
 	Scale   scale
+	Desk    desk
+	Line    string
+	Script  string
 }
 
 // calls are functions by their names.
@@ -225,6 +228,16 @@ var clockCalls = calls{
 	"PeriodOfScale": func(a arguments) []any { return all(impl.PeriodOfScale(a.Scale)) },
 }
 
+// consoleCalls are the functions of chapter 10.
+var consoleCalls = calls{
+	"FirstDesk":   func(a arguments) []any { return all(impl.FirstDesk()) },
+	"IsDesk":      func(a arguments) []any { return all(impl.IsDesk(a.Desk)) },
+	"DeskLine":    func(a arguments) []any { return all(impl.DeskLine(a.Desk, a.Line)) },
+	"RunScript":   func(a arguments) []any { return all(impl.RunScript(a.Script)) },
+	"DeskAfter":   func(a arguments) []any { return all(impl.DeskAfter(a.Script)) },
+	"FailedLines": func(a arguments) []any { return all(impl.FailedLines(a.Script)) },
+}
+
 // oddVessels returns vessels and values that are none, all with spare capacity.
 func oddVessels() []vessels {
 	list := []vessels{
@@ -311,6 +324,10 @@ func longArguments() arguments {
 		D:     clockWith(999, 100),
 		Wheel: wheelWith(2, 1, 1),
 		Scale: scaleWith(1, 1, 1000),
+
+		Desk:   spareDesk(desk{Vessels: vessels{Sizes: make([]int, 100000), Held: make([]int, 100000)}, Taken: 7}),
+		Line:   strings.Repeat("show ", 100000),
+		Script: strings.Repeat("show\n", 100000),
 	}
 }
 
@@ -571,6 +588,35 @@ func eachClockArguments(f func(a arguments)) {
 	f(longArguments())
 }
 
+// spareDesk returns a desk with marks in the spare capacity of its lists.
+func spareDesk(d desk) desk {
+	return desk{Vessels: spareVessels(d.Vessels), Taken: d.Taken}
+}
+
+// eachConsoleArguments calls f with arguments of the console: desks beside lines, and scripts, all of which may be any. Each number of a desk is any in its turn.
+func eachConsoleArguments(f func(a arguments)) {
+	lines := []string{"", " ", "fly", "show\n", "\xff\x00", strings.Repeat("x", 3000), strings.Repeat("x", 3001), "vessels " + hugeVessels, "move t>1", "move 4>4", "swap 0 9", "scale 0", "scale 13", "plan 61", "plan 4 ", "caps 2 999999", "caps 0,999999 1", "rain 4 1000000", "wheel 60 60 1 10000", "clock 1000 100", "thin 60 1 50"}
+	for _, row := range rows {
+		lines = append(lines, row.line)
+	}
+	numbers := []int{least, least + 1, -1, 0, 1, 3, 5, 60, 61, 999999, impl.MaxTaken, impl.MaxTaken + 1, greatest - 1, greatest}
+	desks := append(noDesks(), deskOf("0/3,5/5", 7), deskOf("2/3,1/5,0/2", impl.MaxTaken), deskOf("1/2", 0), deskOf(hugeVessels, 1))
+	for _, x := range numbers {
+		for place := range 5 {
+			d := deskOf("0/3,5/5", 7)
+			*[]*int{&d.Vessels.Sizes[0], &d.Vessels.Sizes[1], &d.Vessels.Held[0], &d.Vessels.Held[1], &d.Taken}[place] = x
+			desks = append(desks, d)
+		}
+	}
+	scripts := append(noScripts(), "", "\n", strings.Repeat("\n", 50), scriptOf(lines[:5]), scriptOf(lines[8:]), "move t>0\nmove 0>d\ntaken\n", "fly\nshow\nswap 2 2\n")
+	for i, d := range desks {
+		for j, line := range lines {
+			f(arguments{Desk: spareDesk(d), Line: line, Script: scripts[(i*7+j)%len(scripts)]})
+		}
+	}
+	f(longArguments())
+}
+
 // whole returns a copy of a value in which every slice is as long as its memory: what is behind its length is seen too.
 func whole(v reflect.Value) reflect.Value {
 	switch v.Kind() {
@@ -713,6 +759,11 @@ func TestEveryCallIsTotalAndLeavesItsArguments(t *testing.T) {
 			checkCall(t, name, call, a)
 		}
 	})
+	eachConsoleArguments(func(a arguments) {
+		for name, call := range consoleCalls {
+			checkCall(t, name, call, a)
+		}
+	})
 }
 
 // plainCalls are arguments without spare capacity, and the functions that are called with them.
@@ -753,6 +804,18 @@ func plainCalls() map[*arguments]calls {
 		{
 			C: bowl, D: clockWith(20, 2), Wheel: mill, Scale: balance, I: 30, J: 3, K: 2,
 		}: clockCalls,
+		{
+			Desk: deskOf("0/3,5/5", 7), Line: "show", Script: "move 1>0\nfly\nmove t>1\n",
+		}: consoleCalls,
+		{
+			Desk: deskOf("0/3,5/5", 7), Line: "move t>0", Script: "fly\n",
+		}: consoleCalls,
+		{
+			Desk: deskOf("0/3,5/5", 7), Line: "swap 1 2", Script: "swap 0 1\n",
+		}: consoleCalls,
+		{
+			Desk: deskOf("0/3,5/5", 7), Line: "vessels 1/2", Script: "vessels 1/2\n",
+		}: consoleCalls,
 	}
 }
 
@@ -763,7 +826,7 @@ func spared(a arguments) arguments {
 	a.Caps, a.Held, a.Days, a.Other = spare(a.Caps, mark), spare(a.Held, mark), spare(a.Days, mark), spare(a.Other, mark)
 	a.Row, a.Behind, a.Flows = spareRow(a.Row), spareRow(a.Behind), spare(a.Flows, mark)
 	a.Tanks, a.Joins = spareTanks(a.Tanks), spareJoins(a.Joins)
-	a.Brine, a.Flight = spareBrine(a.Brine), spareFlight(a.Flight)
+	a.Brine, a.Flight, a.Desk = spareBrine(a.Brine), spareFlight(a.Flight), spareDesk(a.Desk)
 	return a
 }
 
@@ -787,7 +850,7 @@ func TestResultsStayWhenArgumentsChange(t *testing.T) {
 			kept[name] = call(a)
 			results[name] = fmt.Sprint(kept[name]...)
 		}
-		for _, numbers := range append(slices.Clone(a.Joins), a.V.Sizes, a.V.Held, a.W.Sizes, a.W.Held, a.Inflows, a.Caps, a.Held, a.Days, a.Other, a.Flows, a.Brine.Vessels.Sizes, a.Brine.Vessels.Held, a.Flight.Lifts) {
+		for _, numbers := range append(slices.Clone(a.Joins), a.V.Sizes, a.V.Held, a.W.Sizes, a.W.Held, a.Inflows, a.Caps, a.Held, a.Days, a.Other, a.Flows, a.Brine.Vessels.Sizes, a.Brine.Vessels.Held, a.Flight.Lifts, a.Desk.Vessels.Sizes, a.Desk.Vessels.Held) {
 			for i := range numbers {
 				numbers[i] = mark
 			}

@@ -25,6 +25,7 @@ type (
 	clock   = impl.Clock
 	scoops  = impl.Wheel
 	scale   = impl.Scale
+	desk    = impl.Desk
 )
 
 // tap and drain are the same number; two names tell which one is meant.
